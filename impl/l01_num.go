@@ -109,7 +109,13 @@ func Dec(n int) string {
 // ReadDec returns the number that Dec formats as s, if it has at most nine
 // digits.
 func ReadDec(s string) (int, bool) {
-	if len(strings.TrimPrefix(s, "-")) > maxDecDigits {
+	return readDecimal(s, maxDecDigits)
+}
+
+// readDecimal returns the number that Dec formats as s, if it has at most so
+// many digits.
+func readDecimal(s string, maxDigits int) (int, bool) {
+	if len(strings.TrimPrefix(s, "-")) > maxDigits {
 		return 0, false
 	}
 	n, err := strconv.Atoi(s)
